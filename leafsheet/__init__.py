@@ -1,0 +1,1 @@
+"""Leafsheet: a sheet of cells, each with a small formula over other cells."""
