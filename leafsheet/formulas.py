@@ -1,5 +1,7 @@
 """Formulas: which places one leans on, and what value it makes of the values of places."""
 
+from leafsheet.places import off
+
 
 def leans(formula):
     # The whole number of a "number" is no place.
@@ -10,8 +12,7 @@ def leans(formula):
 
 def looker(numbers):
     def look(place):
-        # An index below nought would count from the list's end, where a place is off the sheet.
-        if place < 0 or place >= len(numbers):
+        if off(numbers, place):
             return 0
         return numbers[place]
 

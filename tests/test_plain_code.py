@@ -26,7 +26,7 @@ class PlainCode(unittest.TestCase):
 
     def test_the_files_are_found(self):
         names = [path.name for path in self.files]
-        for name in ("__init__.py", "errors.py", "formulas.py"):
+        for name in ("__init__.py", "day.py", "errors.py", "formulas.py", "leaning.py", "places.py", "sheets.py"):
             self.assertIn(name, names)
 
     def test_imports_are_of_the_package_alone(self):
